@@ -1,0 +1,1 @@
+"""Onefolk: rows named as one person, why, and taken apart again."""
