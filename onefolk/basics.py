@@ -1,6 +1,9 @@
-"""What several modules need of numbers and of order."""
+"""What several modules need of numbers, of order and of texts."""
+
+from onefolk.errors import NoText
 
 FIGURES = "0123456789"
+MOST_FIGURES = 6
 
 
 def is_whole(thing):
@@ -8,6 +11,22 @@ def is_whole(thing):
     return isinstance(thing, int) and not isinstance(thing, bool)
 
 
+def number_in(text):
+    """The number that a text is written as, or None."""
+    if not 1 <= len(text) <= MOST_FIGURES or not all([sign in FIGURES for sign in text]):
+        return None
+    if text[0] == "0" and text != "0":
+        return None
+    return int(text)
+
+
 def are_rising(things):
     """Whether each thing is less than the next one, so that no two are alike."""
     return all([things[at] < things[at + 1] for at in range(len(things) - 1)])
+
+
+def lines_in(text):
+    """The rows of a text, which may be a thing of any kind; the empty text has none."""
+    if not isinstance(text, str):
+        raise NoText(0)
+    return text.split("\n") if text else []

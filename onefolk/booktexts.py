@@ -1,5 +1,6 @@
 """Rows and books as texts."""
 
+from onefolk.basics import lines_in
 from onefolk.errors import NoText
 from onefolk.rows import is_row
 
@@ -44,13 +45,9 @@ def show_book(book):
 
 def read_book(text):
     """The book of a text, which may be a thing of any kind."""
-    if not isinstance(text, str):
-        raise NoText(0)
-    if not text:
-        return ()
     rows = []
     names = set()
-    for at, line in enumerate(text.split("\n")):
+    for at, line in enumerate(lines_in(text)):
         row = row_in(line)
         if row is None or row[0] in names:
             raise NoText(at)

@@ -51,9 +51,10 @@ class RuleTest(unittest.TestCase):
                 self.assertIs(is_rule(rule + (more,)), False, rule)
 
     def test_other_first_words(self):
-        for word in ("", "Same", "same ", "sam", "always", "never ", "nevers", None, 0, b"same", ["same"], ("same",)):
+        words = ["", "Same", "same ", "sam", "always", "never ", "nevers", b"same", ["same"], ("same",)]
+        for word in words + ODD_THINGS:
             for rule in RULES:
-                self.assertIs(is_rule((word,) + rule[1:]), False, word)
+                self.assertIs(is_rule((word,) + rule[1:]), False)
         self.assertIs(is_rule(("never", "mail", 5)), False)
         self.assertIs(is_rule(("same", "mail")), False)
         self.assertIs(is_rule(("begin", "mail", 5)), False)
