@@ -63,12 +63,17 @@ def other_end(reason, name):
 
 def hangs_on(ground, reason):
     """What hangs on a reason of the ground, which may be a thing of any kind."""
+    refuse_no_reason(ground, reason)
     names, reasons, bars = ground
-    # is_reason first: True equals 1, and so would be found among the reasons.
-    if not is_reason(reason) or reason not in reasons:
-        raise NoReason("this is no reason of the ground")
     others = [other for other in reasons if other != reason]
     one_part = part_by(names, others, reason[1])
     if reason[2] in one_part:
         return ("stays",)
     return ("parts", one_part, part_by(names, others, reason[2]))
+
+
+def refuse_no_reason(ground, reason):
+    """Refuses a thing of any kind that is no reason of the ground."""
+    # is_reason first: True equals 1, and so would be found among the reasons.
+    if not is_reason(reason) or reason not in ground[1]:
+        raise NoReason("this is no reason of the ground")

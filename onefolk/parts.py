@@ -23,8 +23,7 @@ def refuse_no_name(ground, name):
 
 def parts_by(names, reasons):
     """The parts of rising names by these reasons, by their first names."""
-    heads = heads_by(names, reasons)
-    return [names_under(heads, name) for name in names if heads[name] == name]
+    return sets_under(heads_by(names, reasons))
 
 
 def part_by(names, reasons, name):
@@ -52,6 +51,11 @@ def join_heads(heads, one, other):
     for name in list(heads):
         if heads[name] == one or heads[name] == other:
             heads[name] = head
+
+
+def sets_under(heads):
+    """The sets of all heads, by their first names."""
+    return [names_under(heads, name) for name in heads if heads[name] == name]
 
 
 def names_under(heads, head):

@@ -73,6 +73,15 @@ def bound_within(tree):
     return names - set(defined(tree))
 
 
+def own_methods(tree):
+    return [inner.name for node in tree.body if isinstance(node, ast.ClassDef)
+            for inner in node.body if isinstance(inner, ast.FunctionDef)]
+
+
+def own_attributes(tree):
+    return [node.attr for node in ast.walk(tree) if isinstance(node, ast.Attribute) and isinstance(node.ctx, ast.Store)]
+
+
 class FilesTest(unittest.TestCase):
     def test_the_folder_has_only_plain_files(self):
         for path in FOLDER.iterdir():
@@ -144,11 +153,17 @@ class CodeTest(unittest.TestCase):
             self.assertEqual(bound_within(tree) & set(outer), set(), stem)
 
     def test_methods_and_attributes(self):
+        methods = {name for stem, tree in trees() for name in own_methods(tree)}
+        attributes = {name for stem, tree in trees() for name in own_attributes(tree)}
+        self.assertEqual(methods & attributes, set())
+        for name in (methods | attributes) - set(DOUBLE):
+            self.assertFalse(any(hasattr(thing, name) for thing in ("", b"", 0, [], {}, set())), name)
         for stem, tree in trees():
             for node in ast.walk(tree):
                 if isinstance(node, ast.Call) and isinstance(node.func, ast.Attribute):
-                    is_base = node.func.attr == "__init__"
-                    self.assertTrue(is_base or node.func.attr in METHODS, (stem, node.lineno))
+                    self.assertIn(node.func.attr, METHODS | methods, (stem, node.lineno))
+                elif isinstance(node, ast.Attribute):
+                    self.assertIn(node.attr, METHODS | methods | attributes, (stem, node.lineno))
 
     def test_is_stands_with_none_and_truths(self):
         for stem, tree in trees():
