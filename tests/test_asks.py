@@ -1,0 +1,71 @@
+import copy
+import random
+import unittest
+
+from onefolk.asks import answer, asks_of
+from worlds import some_worlds, true_answer, true_asks
+
+WORLD = (("a", "c"), ("b",), ("d", "e", "f"))
+
+
+class AsksTest(unittest.TestCase):
+    def test_no_names(self):
+        self.assertEqual(asks_of(((),)), [])
+
+    def test_one_name(self):
+        self.assertEqual(asks_of(((("a",),),)), [("stands", "a")])
+        self.assertEqual(asks_of(((), (("a",),))), [("stands", "a")])
+
+    def test_in_order(self):
+        self.assertEqual(asks_of(((("a", "c"), ("b",)),)), [
+            ("stands", "a"), ("stands", "b"), ("stands", "c"), ("one", "a", "b"), ("one", "a", "c"), ("one", "b", "c")])
+
+    def test_names_that_stand_in_some_worlds_alone(self):
+        for worlds in (((("b",),), (("a",),)), ((("a",),), (("b",),)), ((("a", "b"),), ()), ((), (("a",), ("b",)))):
+            self.assertEqual(asks_of(worlds), [("stands", "a"), ("stands", "b"), ("one", "a", "b")])
+
+    def test_eight_names(self):
+        asks = asks_of((tuple((name,) for name in "abcdefgh"),))
+        self.assertEqual(len(asks), 36)
+        self.assertEqual(asks[7:9], [("stands", "h"), ("one", "a", "b")])
+        self.assertEqual(asks[-1], ("one", "g", "h"))
+
+    def test_some_worlds(self):
+        chance = random.Random(91)
+        for _ in range(200):
+            worlds = some_worlds(chance)
+            self.assertEqual(asks_of(worlds), true_asks(worlds))
+
+    def test_the_told_list_is_the_askers_own(self):
+        kept = copy.deepcopy(asks_of((WORLD,)))
+        told = asks_of((WORLD,))
+        self.assertIs(type(told), list)
+        told.clear()
+        self.assertEqual(asks_of((WORLD,)), kept)
+
+
+class AnswerTest(unittest.TestCase):
+    def test_stands(self):
+        for name in "abcdef":
+            self.assertIs(answer(WORLD, ("stands", name)), True)
+        for name in ("g", "ab", "aa"):
+            self.assertIs(answer(WORLD, ("stands", name)), False)
+        self.assertIs(answer((), ("stands", "a")), False)
+
+    def test_one(self):
+        for one, other, told in (("a", "c", True), ("d", "f", True), ("e", "f", True), ("a", "b", False), ("c", "d", False),
+                                 ("a", "g", False), ("b", "x", False), ("x", "y", False)):
+            self.assertIs(answer(WORLD, ("one", one, other)), told)
+        self.assertIs(answer((), ("one", "a", "b")), False)
+
+    def test_some_worlds(self):
+        chance = random.Random(92)
+        for _ in range(200):
+            worlds = some_worlds(chance)
+            for ask in asks_of(worlds):
+                for world in worlds:
+                    self.assertIs(answer(world, ask), true_answer(world, ask))
+
+
+if __name__ == "__main__":
+    unittest.main()
