@@ -1,8 +1,8 @@
 """Two joinings of the same names: their groups, and the least steps from one to the other."""
 
 from onefolk.errors import NoName, NoStep
-from onefolk.grounds import are_names
 from onefolk.parts import join_heads, lone_heads, sets_under
+from onefolk.sets import is_set, names_in
 
 
 def groups_of(one, other):
@@ -20,11 +20,6 @@ def refuse_other_names(one, other):
     alone = sorted(set(names_in(one)) ^ set(names_in(other)))
     if alone:
         raise NoName(alone[0])
-
-
-def names_in(sets):
-    """The names of a joining, rising."""
-    return sorted([name for own in sets for name in own])
 
 
 def group_of(one, other, names):
@@ -85,8 +80,3 @@ def is_step(thing):
         return False
     word, first, second = thing
     return isinstance(word, str) and word in ("join", "split") and is_set(first) and is_set(second)
-
-
-def is_set(thing):
-    """Whether a thing of any kind is a rising tuple of one name or more."""
-    return are_names(thing) and len(thing) > 0
