@@ -1,4 +1,4 @@
-"""What several modules need of numbers, of order and of texts."""
+"""What several modules need of numbers, of tuples, of order and of texts."""
 
 from onefolk.errors import NoText
 
@@ -9,6 +9,16 @@ MOST_FIGURES = 6
 def is_whole(thing):
     """Whether a thing of any kind is a whole number; a truth is none."""
     return isinstance(thing, int) and not isinstance(thing, bool)
+
+
+def is_tuple(thing, many):
+    """Whether a thing of any kind is a tuple of so many parts."""
+    return isinstance(thing, tuple) and len(thing) == many
+
+
+def is_worded(thing, word, many):
+    """Whether a thing of any kind is a tuple of so many parts, this word the first."""
+    return is_tuple(thing, many) and isinstance(thing[0], str) and thing[0] == word
 
 
 def number_in(text):

@@ -1,18 +1,18 @@
 """Reasons, bars and grounds."""
 
-from onefolk.basics import are_rising, is_whole
+from onefolk.basics import are_rising, is_tuple, is_whole
 from onefolk.rows import is_name
 from onefolk.rules import is_weight, tells
 
 
 def is_reason(thing):
     """Whether a thing of any kind is a reason."""
-    return isinstance(thing, tuple) and len(thing) == 4 and is_weight(thing[0]) and is_bar(thing[1:])
+    return is_tuple(thing, 4) and is_weight(thing[0]) and is_bar(thing[1:])
 
 
 def is_bar(thing):
     """Whether a thing of any kind is a bar."""
-    if not isinstance(thing, tuple) or len(thing) != 3:
+    if not is_tuple(thing, 3):
         return False
     one, other, number = thing
     return is_name(one) and is_name(other) and one < other and is_whole(number) and number >= 0
@@ -20,7 +20,7 @@ def is_bar(thing):
 
 def is_ground(thing):
     """Whether a thing of any kind is a ground."""
-    if not isinstance(thing, tuple) or len(thing) != 3:
+    if not is_tuple(thing, 3):
         return False
     names, reasons, bars = thing
     return are_names(names) and are_reasons(reasons, names) and are_bars(bars, names)

@@ -61,6 +61,24 @@ def other_end(reason, name):
     return None
 
 
+def are_some(thing, reasons):
+    """Whether a thing of any kind is a tuple of some of these reasons, none twice."""
+    # is_reason first: True equals 1, and so would be found among the reasons.
+    if not isinstance(thing, tuple) or not all([is_reason(part) and part in reasons for part in thing]):
+        return False
+    return len(set(thing)) == len(thing)
+
+
+def leads(way, start, end):
+    """Whether these reasons, one behind the other, lead from start to end."""
+    here = start
+    for reason in way:
+        here = other_end(reason, here)
+        if here is None:
+            return False
+    return here == end
+
+
 def hangs_on(ground, reason):
     """What hangs on a reason of the ground, which may be a thing of any kind."""
     refuse_no_reason(ground, reason)

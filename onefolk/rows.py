@@ -1,6 +1,6 @@
 """Names, words, rows and books."""
 
-from onefolk.basics import FIGURES, are_rising
+from onefolk.basics import FIGURES, are_rising, is_tuple
 from onefolk.errors import NoName
 
 LETTERS = "abcdefghijklmnopqrstuvwxyz"
@@ -25,7 +25,7 @@ def is_text_of(thing, signs, longest):
 
 def is_row(thing):
     """Whether a thing of any kind is a row."""
-    return isinstance(thing, tuple) and len(thing) == 2 and is_name(thing[0]) and are_words(thing[1])
+    return is_tuple(thing, 2) and is_name(thing[0]) and are_words(thing[1])
 
 
 def are_words(thing):
@@ -37,7 +37,7 @@ def are_words(thing):
 
 def is_field_word(thing):
     """Whether a thing is a pair of a field and its word."""
-    return isinstance(thing, tuple) and len(thing) == 2 and is_name(thing[0]) and is_word(thing[1])
+    return is_tuple(thing, 2) and is_name(thing[0]) and is_word(thing[1])
 
 
 def is_book(thing):

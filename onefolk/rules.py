@@ -1,6 +1,6 @@
 """Rules, and what a rule tells of two rows."""
 
-from onefolk.basics import is_whole
+from onefolk.basics import is_whole, is_worded
 from onefolk.rows import is_name, word_of
 
 MOST_WEIGHT = 1000
@@ -19,15 +19,13 @@ def is_beginning(thing):
 
 def is_rule(thing):
     """Whether a thing of any kind is a rule."""
-    if not isinstance(thing, tuple) or not thing or not isinstance(thing[0], str):
-        return False
-    if thing[0] == "same":
-        return len(thing) == 3 and is_name(thing[1]) and is_weight(thing[2])
-    if thing[0] == "begin":
-        return len(thing) == 4 and is_name(thing[1]) and is_beginning(thing[2]) and is_weight(thing[3])
-    if thing[0] == "both":
-        return len(thing) == 4 and are_unlike_names(thing[1], thing[2]) and is_weight(thing[3])
-    return thing[0] == "never" and len(thing) == 2 and is_name(thing[1])
+    if is_worded(thing, "same", 3):
+        return is_name(thing[1]) and is_weight(thing[2])
+    if is_worded(thing, "begin", 4):
+        return is_name(thing[1]) and is_beginning(thing[2]) and is_weight(thing[3])
+    if is_worded(thing, "both", 4):
+        return are_unlike_names(thing[1], thing[2]) and is_weight(thing[3])
+    return is_worded(thing, "never", 2) and is_name(thing[1])
 
 
 def are_unlike_names(one, other):

@@ -1,5 +1,6 @@
 """Two joinings of the same names: their groups, and the least steps from one to the other."""
 
+from onefolk.basics import is_worded
 from onefolk.errors import NoName, NoStep
 from onefolk.parts import join_heads, lone_heads, sets_under
 from onefolk.sets import is_set, names_in
@@ -76,7 +77,6 @@ def behind_step(one, step):
 
 def is_step(thing):
     """Whether a thing of any kind is written as a step."""
-    if not isinstance(thing, tuple) or len(thing) != 3:
+    if not is_worded(thing, "join", 3) and not is_worded(thing, "split", 3):
         return False
-    word, first, second = thing
-    return isinstance(word, str) and word in ("join", "split") and is_set(first) and is_set(second)
+    return is_set(thing[1]) and is_set(thing[2])

@@ -1,4 +1,4 @@
-"""Good joinings and cases, held against the document's words one by one."""
+"""Joinings, good ones and cases, held against the document's words one by one."""
 
 import itertools
 
@@ -20,6 +20,24 @@ def partitions(names):
 
 def joinings(names):
     return [sorted(tuple(sorted(own)) for own in some) for some in partitions(list(names))]
+
+
+def slow_joining(names, reasons, bars):
+    """What [14] says, gone through with the sets themselves."""
+    sets = [{name} for name in names]
+    kept, barred = [], []
+    for reason in reasons:
+        one = next(some for some in sets if reason[1] in some)
+        other = next(some for some in sets if reason[2] in some)
+        if one is other:
+            continue
+        between = [bar for bar in bars if {bar[0], bar[1]} & one and {bar[0], bar[1]} & other]
+        if between:
+            barred.append((reason, between[0]))
+        else:
+            sets = [some for some in sets if some is not one and some is not other] + [one | other]
+            kept.append(reason)
+    return (sorted(tuple(sorted(some)) for some in sets), kept, barred)
 
 
 def slow_good(ground, sets):

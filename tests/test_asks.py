@@ -2,10 +2,37 @@ import copy
 import random
 import unittest
 
-from onefolk.asks import answer, asks_of
+from anything import ODD_THINGS
+from onefolk.asks import answer, are_worlds, asks_of
 from worlds import some_worlds, true_answer, true_asks
 
 WORLD = (("a", "c"), ("b",), ("d", "e", "f"))
+
+
+class WorldsTest(unittest.TestCase):
+    def test_worlds(self):
+        for worlds in (((),), (WORLD,), (WORLD, ()), ((), (("a",),), (("a", "b"),), (("a",), ("b",)))):
+            self.assertIs(are_worlds(worlds), True, worlds)
+        chance = random.Random(93)
+        for _ in range(100):
+            self.assertIs(are_worlds(some_worlds(chance)), True)
+
+    def test_at_most_eight_worlds_and_names(self):
+        worlds = tuple(tuple((name,) for bit, name in enumerate("abcd") if number >> bit & 1) for number in range(9))
+        self.assertIs(are_worlds(worlds[:8]), True)
+        self.assertIs(are_worlds(worlds), False)
+        self.assertIs(are_worlds((tuple((name,) for name in "abcdefgh"), ())), True)
+        self.assertIs(are_worlds((tuple((name,) for name in "abcdefghi"), ())), False)
+        self.assertIs(are_worlds(((tuple("abcde"),), (tuple("fghi"),))), False)
+
+    def test_other_things(self):
+        for thing in ((), [WORLD], (WORLD, WORLD), (list(WORLD),), (WORLD, None), WORLD, ((("b",), ("a",)),), ((("a",), ("a",)),),
+                      (((),),), ((("b", "a"),),), ((["a"],),), ((("a", "b"), ("b",)),), ((("A",),),), "a", None):
+            self.assertIs(are_worlds(thing), False, thing)
+        for thing in ODD_THINGS:
+            # A tuple of one empty tuple is the one world where nobody stands.
+            if not isinstance(thing, tuple) or thing not in (((),), ((), ())):
+                self.assertIs(are_worlds(thing), False)
 
 
 class AsksTest(unittest.TestCase):

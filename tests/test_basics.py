@@ -1,7 +1,7 @@
 import unittest
 
 from anything import ODD_THINGS
-from onefolk.basics import are_rising, is_whole, number_in
+from onefolk.basics import are_rising, is_tuple, is_whole, is_worded, number_in
 
 
 class WholeTest(unittest.TestCase):
@@ -11,6 +11,23 @@ class WholeTest(unittest.TestCase):
         for thing in ODD_THINGS + ["1", "a"]:
             if type(thing) is not int:
                 self.assertIs(is_whole(thing), False)
+
+
+class TupleTest(unittest.TestCase):
+    def test_so_many_parts(self):
+        for thing, many, is_so in (((), 0, True), ((1,), 1, True), ((1, 2), 2, True), ((), 1, False), ((1,), 0, False),
+                                   ((1, 2), 3, False), ([], 0, False), ([1], 1, False), ("a", 1, False), ("", 0, False)):
+            self.assertIs(is_tuple(thing, many), is_so, thing)
+        for thing in ODD_THINGS:
+            self.assertIs(is_tuple(thing, 7), False)
+
+    def test_a_word_first(self):
+        for thing, is_so in ((("told", 0), True), (("told", None), True), (("tell", 0), False), (("told",), False),
+                             (("told", 0, 0), False), (["told", 0], False), ((0, "told"), False), ((b"told", 0), False)):
+            self.assertIs(is_worded(thing, "told", 2), is_so, thing)
+        for thing in ODD_THINGS:
+            self.assertIs(is_worded(thing, "told", 2), False)
+            self.assertIs(is_worded((thing, thing), "told", 2), False)
 
 
 class NumberTest(unittest.TestCase):

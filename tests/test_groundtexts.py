@@ -42,20 +42,25 @@ WRITTEN_JOININGS = (
 
 # Rows that are none, whatever stands about them.
 WRONG_ROWS = (
-    "", " ", "-", "/", "a", "a-b", "a/b", "a-b 5", "a-b 5 ", "a/b ", "a-b 5 0 ", " a-b 5 0", "a-b  5 0", "a-b 5  0", "a -b 5 0",
-    "a- b 5 0", "a-b 5 0 0", "a/b 0 0", "a/b 5 0 0", " a/b 0", "a/b  0", "a/b 0 ", "a--b 5 0", "a//b 0", "a-b-c 5 0", "a/b/c 0",
+    "", " ", "-", "/", "a", "a-b", "a/b", "a-b 5", "a-b 5 ", "a/b ", "a-b 5 0 ", " a-b 5 0", "a-b  5 0", "a-b 5  0",
+    "a -b 5 0",
+    "a- b 5 0", "a-b 5 0 0", "a/b 0 0", "a/b 5 0 0", " a/b 0", "a/b  0", "a/b 0 ", "a--b 5 0", "a//b 0", "a-b-c 5 0",
+    "a/b/c 0",
     "a-/b 5 0", "a b 5 0", "a,b 5 0", "a-b,5,0", "a-b 5, 0", "a-b 5-0", "a/b-0", "a:b 5 0", "A-b 5 0", "a-B 5 0", "a-b 5 O",
     "-b 5 0", "a- 5 0", "/b 0", "a/ 0", "a1-b 5 0", "a-b1 5 0", "1-2 5 0", "a-b five 0", "a-b 5 x", "a-b x 0",
     "a-b 05 0", "a-b 005 0", "a-b 5 00", "a-b 5 01", "a/b 00", "a/b 01", "a-b 0 0", "a-b 00 0", "a-b 1001 0", "a-b 999999 0",
     "a-b 1000000 0", "a-b 5 1000000", "a/b 1000000", "a-b -5 0", "a-b +5 0", "a-b 5 -1", "a/b -1", "a-b 5.0 0", "a/b 0.0",
-    "b-a 5 0", "b/a 0", "a-a 5 0", "a/a 0", "abcdefghi-b 5 0", "a-bcdefghij 5 0", "a/bcdefghij 0", "names", "names a b", "a|b 0",
+    "b-a 5 0", "b/a 0", "a-a 5 0", "a/a 0", "abcdefghi-b 5 0", "a-bcdefghij 5 0", "a/bcdefghij 0", "names", "names a b",
+    "a|b 0",
     "a-b\t5 0", "a-b 5\t0", "a-b 5 0\r", "a/b 0\r", "a-b 5_0 0", "a-b 5 0,", "a-b 5 0;", "(5, 'a', 'b', 0)",
 )
 
 WRONG_NAMES = (
-    " names", "names ", "names  a", "names a ", "names a  b", "Names a", "NAMES", "name a", "namesa", "names,a", "names a,b", "names a, b",
+    " names", "names ", "names  a", "names a ", "names a  b", "Names a", "NAMES", "name a", "namesa", "names,a", "names a,b",
+    "names a, b",
     "names: a", "names-a", "a b", "names b a", "names a a", "names a c b", "names ab a", "names A", "names a1", "names a B",
-    "names abcdefghi", "names a | b", "names a-b", "names\ta", "names a\r", "a-b 5 0", "a/b 0", " ", "ames a", "nnames a", "names 1",
+    "names abcdefghi", "names a | b", "names a-b", "names\ta", "names a\r", "a-b 5 0", "a/b 0", " ", "ames a", "nnames a",
+    "names 1",
 )
 
 
@@ -70,7 +75,8 @@ def wide_grounds(seed, many):
     chance = random.Random(seed)
     found = []
     for _ in range(many):
-        names = tuple(sorted({"".join(chance.choices("abz", k=chance.choice((1, 2, 8)))) for _ in range(chance.randrange(7))}))
+        names = tuple(sorted({"".join(chance.choices("abz",
+                                                     k=chance.choice((1, 2, 8)))) for _ in range(chance.randrange(7))}))
         pairs = list(itertools.combinations(names, 2))
         numbers = (0, 1, 2, 9, 10, 11, 99, 100, 101, 99999, 100000, 999999)
         reasons = {(chance.choice((1, 2, 9, 10, 11, 99, 100, 999, 1000)),) + chance.choice(pairs) + (chance.choice(numbers),)
@@ -125,7 +131,8 @@ class ReadGroundTest(unittest.TestCase):
             self.assertIsInstance(ground_by_signs(row), int, repr(row))
 
     def test_a_wrong_row_at_each_place(self):
-        for right in (["names a b c", "b-c 7 0", "a-c 1 0"], ["names a b c", "b/c 7", "b/c 8"], ["names a b c", "b-c 7 0", "b/c 0"]):
+        for right in (["names a b c", "b-c 7 0", "a-c 1 0"], ["names a b c", "b/c 7", "b/c 8"],
+                      ["names a b c", "b-c 7 0", "b/c 0"]):
             self.assertTrue(is_ground(read_ground("\n".join(right))))
             for wrong in WRONG_ROWS:
                 for at in (1, 2, 3):
@@ -237,10 +244,11 @@ class JoiningTextTest(unittest.TestCase):
             self.assertEqual(read_joining(show_joining(parts_of(ground))), parts_of(ground))
 
     def test_wrong_texts(self):
-        for text in (" ", "  ", "|", " | ", " |", "| ", "a  b", " a", "a ", "a | b ", " a | b", "a|b", "a |b", "a| b", "a  | b", "a |  b",
-                     "a | ", " | a", "a |", "| a", "a |  | b", "a | | b", "a || b", "b | a", "a | c | b", "a c | ab | aa", "b a", "a c b",
-                     "a b | c b", "a a", "a | a", "a b | b", "a b | a", "a b | b c", "a c | b c", "A", "a B", "a | B", "a1", "1", "a, b", "a,b",
-                     "a-b", "a/b", "a\n", "\n", "a\nb", "a | b\n", "\na", "abcdefghi", "a | abcdefghi", "a\tb", "names a", "[('a',)]", "a&b"):
+        for text in (" ", "  ", "|", " | ", " |", "| ", "a  b", " a", "a ", "a | b ", " a | b", "a|b", "a |b", "a| b",
+                     "a  | b", "a |  b", "a | ", " | a", "a |", "| a", "a |  | b", "a | | b", "a || b", "b | a",
+                     "a | c | b", "a c | ab | aa", "b a", "a c b", "a b | c b", "a a", "a | a", "a b | b", "a b | a",
+                     "a b | b c", "a c | b c", "A", "a B", "a | B", "a1", "1", "a, b", "a,b", "a-b", "a/b", "a\n", "\n",
+                     "a\nb", "a | b\n", "\na", "abcdefghi", "a | abcdefghi", "a\tb", "names a", "[('a',)]", "a&b"):
             self.assertIsNone(joining_by_signs(text), repr(text))
             self.assertEqual(row_told(self, read_joining, text), 0, repr(text))
 
@@ -272,7 +280,8 @@ class FolkTextTest(unittest.TestCase):
             folk, later = Folk(self.RULES), Folk(self.RULES)
             names = chance.sample(["a", "ab", "b", "c", "d"], 4)
             for name in names:
-                words = tuple((field, chance.choice(("ab", "abc", "b"))) for field in ("born", "mail") if chance.random() < 0.7)
+                words = tuple((field, chance.choice(("ab", "abc", "b"))) for field in ("born",
+                                                                                       "mail") if chance.random() < 0.7)
                 folk.put((name, words))
             for one, other in itertools.combinations(names, 2):
                 deed = chance.choice(("tell", "bar", None, None))

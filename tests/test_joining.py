@@ -2,6 +2,7 @@ import copy
 import unittest
 
 from anything import ODD_THINGS
+from goodness import slow_joining
 from graphs import chain, put_in_order, ring, some_grounds, walks
 from onefolk.errors import NoReason
 from onefolk.holding import holding_of
@@ -11,24 +12,6 @@ from onefolk.parts import parts_of
 # a, b and c would be one but for the bar of a and c, d comes to c's set, and then a-d is barred, too.
 BARRED = (("a", "b", "c", "d"), ((9, "a", "b", 0), (8, "b", "c", 0), (7, "c", "d", 0), (6, "a", "d", 1), (5, "a", "b", 1)),
           (("a", "c", 2),))
-
-
-def slow_joining(names, reasons, bars):
-    """What [14] says, gone through with the sets themselves."""
-    sets = [{name} for name in names]
-    kept, barred = [], []
-    for reason in reasons:
-        one = next(some for some in sets if reason[1] in some)
-        other = next(some for some in sets if reason[2] in some)
-        if one is other:
-            continue
-        between = [bar for bar in bars if {bar[0], bar[1]} & one and {bar[0], bar[1]} & other]
-        if between:
-            barred.append((reason, between[0]))
-        else:
-            sets = [some for some in sets if some is not one and some is not other] + [one | other]
-            kept.append(reason)
-    return (sorted(tuple(sorted(some)) for some in sets), kept, barred)
 
 
 class JoiningTest(unittest.TestCase):

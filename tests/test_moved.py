@@ -5,17 +5,9 @@ import unittest
 
 from onefolk.errors import NoName
 from onefolk.moved import moved_between
-from pairings import OTHER_NAMES, some_joining, some_pairs
+from pairings import OTHER_NAMES, slow_most, some_joining, some_pairs
 
 LETTERS = "abcdefghijklmnopq"
-
-
-def slow_most(one, other):
-    """The most names that pairs share, every way to pair tried."""
-    if len(one) > len(other):
-        one, other = other, one
-    return max(sum(len(set(one[row]) & set(other[column])) for row, column in enumerate(columns))
-               for columns in itertools.permutations(range(len(other)), len(one)))
 
 
 class MovedTest(unittest.TestCase):

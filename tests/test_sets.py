@@ -23,8 +23,9 @@ class SetTest(unittest.TestCase):
         self.assertIs(are_sets(()), True)
 
     def test_other_tuples(self):
-        for thing in ((("b",), ("a",)), (("a",), ("a",)), (("a", "b"), ("b",)), (("a", "b"), ("b", "c")), (("a", "c"), ("b", "c")),
-                      (("a",), ()), ((),), (["a"],), ("a",), ("a", "b"), (("b", "a"),), (("a",), ("b", 1)), (("a",), None)):
+        for thing in ((("b",), ("a",)), (("a",), ("a",)), (("a", "b"), ("b",)), (("a", "b"), ("b", "c")),
+                      (("a", "c"), ("b", "c")), (("a",), ()), ((),), (["a"],), ("a",), ("a", "b"), (("b", "a"),),
+                      (("a",), ("b", 1)), (("a",), None)):
             self.assertIs(are_sets(thing), False, thing)
         for thing in NO_SETS:
             self.assertIs(are_sets(thing), False)

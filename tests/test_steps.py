@@ -6,47 +6,9 @@ from anything import ODD_THINGS
 from goodness import joinings
 from onefolk.errors import NoName, NoStep
 from onefolk.steps import behind_step, groups_of, steps_between
-from pairings import OTHER_NAMES, some_joining, some_pairs
+from pairings import OTHER_NAMES, neighbours, slow_distance, slow_groups, some_joining, some_pairs
 
 LETTERS = "abcdefghijklmnopq"
-
-
-def slow_groups(one, other):
-    """The groups, sets put together until none reaches over."""
-    groups = [set(own) for own in one + other]
-    while True:
-        for first in groups:
-            more = [second for second in groups if second is not first and first & second]
-            if more:
-                groups = [own for own in groups if own is not first and own is not more[0]] + [first | more[0]]
-                break
-        else:
-            return sorted(tuple(sorted(group)) for group in groups)
-
-
-def neighbours(sets):
-    """Every joining that is one step away."""
-    found = []
-    for at, own in enumerate(sets):
-        for other in sets[at + 1:]:
-            rest = [each for each in sets if each not in (own, other)]
-            found.append(sorted(rest + [tuple(sorted(own + other))]))
-        for halves in joinings(own):
-            if len(halves) == 2:
-                found.append(sorted([each for each in sets if each != own] + halves))
-    return found
-
-
-def slow_distance(one, other):
-    """The fewest steps, sought one by one."""
-    seen, many = [one], 0
-    edge = [one]
-    while other not in edge:
-        many += 1
-        edge = [sets for near in edge for sets in neighbours(near)]
-        edge = [sets for at, sets in enumerate(edge) if sets not in seen and sets not in edge[:at]]
-        seen += edge
-    return many
 
 
 class GroupsTest(unittest.TestCase):
